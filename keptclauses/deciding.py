@@ -42,7 +42,7 @@ def go_on(settings, assumptions):
             return None
     for variable in settings.store.order:
         if settings.value_of[variable] == 0:
-            begin_level(settings, variable if settings.store.last_so[variable] else -variable)
+            begin_level(settings, variable if settings.last_so[variable] else -variable)
             return None
     return it_fits(settings)
 
@@ -62,4 +62,5 @@ def decide(store, most, assumptions):
         else:
             learn(settings, broken)
             learnt_here += 1
+    store.last_so = settings.last_so
     return found

@@ -49,6 +49,7 @@ def learn(settings, broken):
     came.extend(swap_out_at(settings, kept, settings.level, 1))
     came.extend(swap_out_at(settings, kept, 0, 0))
     literals = list(kept)
-    add_clause(settings.store, max([clause.height for clause in came]), literals, True)
+    height = max([clause.height for clause in came])
+    add_clause(settings.store, height, literals, [clause.number for clause in came])
     bring_to_front(settings.store, came)
     undo_above(settings, level_to_go_back_to(settings, literals))

@@ -1,7 +1,8 @@
 """Answers a line of calls on one set of clauses; `answers` is the way in."""
 
 from keptclauses.deciding import decide
-from keptclauses.store import Store, add_clause, drop_above, given_clauses, learnt_clauses
+from keptclauses.settings import follows_by_steps
+from keptclauses.store import Store, add_clause, drop_above, drop_learnt_longer_than, given_clauses, learnt_clauses
 
 SIZE_AT_FIRST = 3
 MOST_VARIABLES = 12
@@ -63,7 +64,7 @@ def answer_clause(store, literals):
         return [-1]
     if len(given_clauses(store)) >= MOST_GIVEN:
         return [-5]
-    return [add_clause(store, store.marks, each_once(literals), False)]
+    return [add_clause(store, store.marks, each_once(literals), [])]
 
 
 def answer_mark(store):
@@ -102,6 +103,36 @@ def answer_learnt(store):
     return [len(clauses)] + told_clauses(clauses)
 
 
+def answer_came(store, number):
+    for clause in learnt_clauses(store):
+        if clause.number == number:
+            return [len(clause.came_of)] + clause.came_of
+    return [-3]
+
+
+def answer_forget(store, length):
+    before = len(store.clauses)
+    drop_learnt_longer_than(store, length)
+    return [before - len(store.clauses)]
+
+
+def answer_steps(store, literals):
+    if has_wrong_literal(store, literals):
+        return [-2]
+    if is_told_both_ways(literals):
+        return [-1]
+    return [1 if follows_by_steps(store, each_once(literals)) else 0]
+
+
+def answer_order(store):
+    return [store.size] + [variable if store.last_so[variable] else -variable for variable in store.order]
+
+
+def answer_shows(store):
+    clauses = given_clauses(store)
+    return [store.marks, len(clauses)] + told_clauses(clauses)
+
+
 def answer_call(store, reader):
     call = reader.take_number()
     if call == 0:
@@ -117,6 +148,16 @@ def answer_call(store, reader):
         return answer_decide(store, most, reader.take_row())
     if call == 5:
         return answer_learnt(store)
+    if call == 6:
+        return answer_came(store, reader.take_number())
+    if call == 7:
+        return answer_forget(store, reader.take_number())
+    if call == 8:
+        return answer_steps(store, reader.take_row())
+    if call == 9:
+        return answer_order(store)
+    if call == 10:
+        return answer_shows(store)
     raise UnknownCall("there is no call of this number")
 
 

@@ -2,7 +2,8 @@
 
 
 # What is known of a variable lies at its own place, so place 0 is idle;
-# a value is 1 (so), -1 (not so) or 0 (neither).
+# a value is 1 (so), -1 (not so) or 0 (neither). How variables were set last is a copy of the store's,
+# for it stays behind a search alone: whether a clause follows by steps is asked without leaving anything.
 class Settings:
     def __init__(self, store):
         self.store = store
@@ -11,6 +12,7 @@ class Settings:
         self.value_of = [0] * (store.size + 1)
         self.level_of = [0] * (store.size + 1)
         self.clause_of = [None] * (store.size + 1)
+        self.last_so = list(store.last_so)
 
 
 def value_of_literal(settings, literal):
@@ -24,7 +26,7 @@ def set_literal(settings, literal, clause):
     settings.level_of[variable] = settings.level
     settings.clause_of[variable] = clause
     settings.trail.append(literal)
-    settings.store.last_so[variable] = literal > 0
+    settings.last_so[variable] = literal > 0
 
 
 def begin_level(settings, literal):
@@ -72,3 +74,10 @@ def set_what_follows(settings):
         set_literal(settings, free[0], clause)
         clause = first_to_look_at(settings)
     return None
+
+
+def follows_by_steps(store, literals):
+    settings = Settings(store)
+    for literal in literals:
+        set_literal(settings, -literal, None)
+    return set_what_follows(settings) is not None

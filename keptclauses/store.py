@@ -1,12 +1,17 @@
 """What stays from one call to the next: clauses, marks, the order, how variables were set last."""
 
 
+# A learnt clause came of one clause at least, a given one of none; those it came of may be gone,
+# so it keeps their numbers.
 class Clause:
-    def __init__(self, number, height, literals, learnt):
+    def __init__(self, number, height, literals, came_of):
         self.number = number
         self.height = height
         self.literals = literals
-        self.learnt = learnt
+        self.came_of = came_of
+
+    def is_learnt(self):
+        return len(self.came_of) > 0
 
 
 # The clauses lie by their numbers from the least on, for each new one has the greatest number so far.
@@ -24,23 +29,27 @@ class Store:
         self.last_so = [False] * (size + 1)
 
 
-def add_clause(store, height, literals, learnt):
+def add_clause(store, height, literals, came_of):
     number = store.next_number
     store.next_number += 1
-    store.clauses.append(Clause(number, height, sorted(literals, key=abs), learnt))
+    store.clauses.append(Clause(number, height, sorted(literals, key=abs), came_of))
     return number
 
 
 def given_clauses(store):
-    return [clause for clause in store.clauses if not clause.learnt]
+    return [clause for clause in store.clauses if not clause.is_learnt()]
 
 
 def learnt_clauses(store):
-    return [clause for clause in store.clauses if clause.learnt]
+    return [clause for clause in store.clauses if clause.is_learnt()]
 
 
 def drop_above(store, height):
     store.clauses = [clause for clause in store.clauses if clause.height <= height]
+
+
+def drop_learnt_longer_than(store, length):
+    store.clauses = [clause for clause in store.clauses if not clause.is_learnt() or len(clause.literals) <= length]
 
 
 def bring_to_front(store, clauses):

@@ -27,6 +27,26 @@ def learnt():
     return [5]
 
 
+def came(k):
+    return [6, k]
+
+
+def forget(k):
+    return [7, k]
+
+
+def steps(*literals):
+    return [8, len(literals), *literals]
+
+
+def order():
+    return [9]
+
+
+def shows():
+    return [10]
+
+
 def line(*calls):
     return [number for call in calls for number in call]
 

@@ -4,7 +4,7 @@ import itertools
 import random
 import unittest
 
-from tests.lines import ask, back, clause, decide, learnt, mark, start
+from tests.lines import ask, back, came, clause, decide, forget, learnt, mark, start, steps
 
 
 def holds(literals, values):
@@ -23,19 +23,26 @@ def some_literals(rng, n, most):
 
 
 def some_clause(rng, n):
-    chosen = rng.sample(range(1, n + 1), min(n, rng.choice((1, 2, 2, 3, 3, 3, 4))))
+    chosen = rng.sample(range(1, n + 1), min(n, rng.choice((1, 2, 2, 3, 3, 3, 3, 3, 3, 3, 4))))
     return clause(*[rng.choice((-1, 1)) * variable for variable in chosen])
 
 
 def some_line(rng):
-    n = rng.randint(1, 6)
-    calls = [start(n)] + [some_clause(rng, n) for _ in range(rng.randint(0, 3 * n))]
+    n = rng.choice((1, 2, 3, 4, 5, 6, 6, 6))
+    calls = [start(n)] + [some_clause(rng, n) for _ in range(rng.randint(0, 4 * n))]
     while len(calls) < 38:
-        kind = rng.randint(0, 9)
-        if kind < 4:
+        kind = rng.randint(0, 11)
+        if kind < 3:
             calls.append(some_clause(rng, n))
-        elif kind < 6:
+        elif kind < 5:
             calls.append(rng.choice((mark, mark, back))())
+        elif kind < 6:
+            calls.append(forget(rng.randint(0, 3)))
+        elif kind < 7:
+            calls.append(steps(*{abs(a): a for a in some_literals(rng, n, 3)}.values()))
+        elif kind < 8:
+            given = len([call for call in calls if call[0] == 1])
+            calls.append(came(rng.randint(given, given + 3)))
         else:
             calls.append(decide(rng.choice((0, 1, 2, 3, 60)), *some_literals(rng, n, 3)))
             calls.append(learnt())
@@ -81,14 +88,36 @@ class AnyLine(unittest.TestCase):
             earlier = [set(told) for _, told in given] + [set(told) for _, _, told in clauses[:place]]
             self.assertFalse(place >= len(before) and set(literals) in earlier)
 
+    def check_steps(self, n, clauses, literals, answer):
+        self.assertIn(answer, ([0], [1]))
+        if answer == [1]:
+            self.assertTrue(all(holds(literals, values) for values in fitting(n, clauses)))
+        if any(set(told) <= set(literals) for told in clauses):
+            self.assertEqual(answer, [1])
+
+    def check_came(self, n, ever, known, k, answer):
+        """What a clause came of came ahead of it, and the clause follows from it; its height is the greatest there."""
+        if k not in [number for number, height, literals in known]:
+            self.assertEqual(answer, [-3])
+            return
+        height, literals = ever[k]
+        self.assertEqual(answer[0], len(answer) - 1)
+        self.assertEqual(len(set(answer[1:])), answer[0])
+        self.assertTrue(all(number < k for number in answer[1:]))
+        behind = [ever[number] for number in answer[1:]]
+        self.assertTrue(all(holds(literals, values) for values in fitting(n, [told for _, told in behind])))
+        self.assertEqual(max(its_height for its_height, _ in behind), height)
+
     def check_line(self, n, calls):
         given, known, marks, number = [], [], 0, 0
+        ever = {}
         told = ask(*calls)
         for place, (call, answer) in enumerate(zip(calls, told)):
             if call[0] == 1:
                 number += 1
                 self.assertEqual(answer, [number])
                 given.append((marks, call[2:]))
+                ever[number] = (marks, call[2:])
             elif call[0] == 2 and marks < 8:
                 marks += 1
                 self.assertEqual(answer, [marks])
@@ -103,10 +132,20 @@ class AnyLine(unittest.TestCase):
                 self.check_learnt(n, given, known, clauses, call[1])
                 number += len(clauses) - len(known)
                 known = clauses
+                ever.update({k: (height, literals) for k, height, literals in clauses})
+            elif call[0] == 6:
+                self.check_came(n, ever, known, call[1], answer)
+            elif call[0] == 7:
+                left = [triple for triple in known if len(triple[2]) <= call[1]]
+                self.assertEqual(answer, [len(known) - len(left)])
+                known = left
+            elif call[0] == 8:
+                standing = [literals for _, literals in given] + [literals for _, _, literals in known]
+                self.check_steps(n, standing, call[2:], answer)
 
     def test_many_lines(self):
         rng = random.Random(90)
-        for _ in range(300):
+        for _ in range(500):
             n, calls = some_line(rng)
             with self.subTest(calls=calls):
                 self.check_line(n, calls)

@@ -4,7 +4,8 @@ import sys
 import unittest
 
 from keptclauses.search import answers
-from tests.lines import EIGHT, ask, back, clause, decide, learnt, line, mark, start
+from tests.lines import (EIGHT, ask, back, came, clause, decide, forget, learnt, line, mark, order, shows, start,
+                         steps)
 
 
 class Form(unittest.TestCase):
@@ -20,12 +21,26 @@ class Form(unittest.TestCase):
         self.assertEqual(answers([0, 1]), [1, 1])
         self.assertEqual(answers([1, 0]), [1, 1])
         self.assertEqual(answers([4, 0, 0]), [5, 1, 3, 0, 0, 0])
+        self.assertEqual(answers([6, 1]), [1, -3])
+        self.assertEqual(answers([7, 0]), [1, 0])
+        self.assertEqual(answers([8, 0]), [1, 0])
+        self.assertEqual(answers([9]), [4, 3, -1, -2, -3])
+        self.assertEqual(answers([10]), [2, 0, 0])
+
+    def test_the_calls_from_came_to_shows(self):
+        calls = [1, 2, 1, 2, 1, 2, 1, -2, 4, 60, 0, 6, 3, 8, 1, 1, 9, 7, 0, 8, 2, 3, 2, 10]
+        #  clause 1 | clause 2 | decide fits: 1 1 0 | came of 2 1 | steps 1 | order | forget 1 | steps 0 | shows
+        self.assertEqual(answers(calls), [1, 1, 1, 2, 5, 1, 3, 1, 1, 0, 3, 2, 2, 1, 1, 1, 4, 3, 1, 2, -3, 1, 1, 1, 0,
+                                          12, 0, 2, 1, 0, 2, 1, 2, 2, 0, 2, 1, -2])
 
     def test_rows_of_sixty(self):
         self.assertEqual(ask(clause(*[2, -3] * 30), decide(0, *[-2] * 60)), [[1], [1, 3, 0, 0, 0]])
+        self.assertEqual(ask(clause(2, -3), steps(*[-3, 2] * 30), steps(*[3] * 60), order())[1:],
+                         [[1], [0], [3, -1, -2, -3]])
 
     def test_a_refusal_is_its_number_alone(self):
-        self.assertEqual(answers([0, 0, 1, 1, 0, 3, 4, 61, 0]), [1, -1, 1, -2, 1, -7, 1, -1])
+        self.assertEqual(answers([0, 0, 1, 1, 0, 3, 4, 61, 0, 6, 9, 8, 2, 1, -1, 8, 1, 4]),
+                         [1, -1, 1, -2, 1, -7, 1, -1, 1, -3, 1, -1, 1, -2])
 
     def test_forty_calls(self):
         self.assertEqual(ask(*[start(2)] * 39, learnt()), [[2]] * 39 + [[0]])
@@ -46,7 +61,8 @@ class Beginning(unittest.TestCase):
 
 
 class NothingElse(unittest.TestCase):
-    calls = line(start(3), mark(), *EIGHT, clause(2, 2, -1), decide(60, 3, 3), learnt(), back())
+    calls = line(start(3), mark(), *EIGHT, clause(2, 2, -1), decide(60, 3, 3), learnt(), came(12), steps(-1, 3),
+                 order(), shows(), forget(1), back())
 
     def test_what_is_handed_in_stays_as_it_is(self):
         class Watched(list):
